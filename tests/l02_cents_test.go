@@ -4,7 +4,10 @@ import (
 	"math"
 	"math/big"
 	"math/rand"
+	"os"
+	"os/exec"
 	"slices"
+	"strconv"
 	"strings"
 	"sync"
 	"testing"
@@ -604,6 +607,53 @@ func TestP1CentsReturn(t *testing.T) {
 	first := centsResults()
 	if again := centsResults(); !slices.Equal(first, again) {
 		t.Error("other results for equal arguments")
+	}
+}
+
+// raiseCases has frequencies at both ends of the range and intervals that lead to the ends and past them.
+var raiseCases = []struct{ f, tenths, want, code int64 }{
+	{440000, 12000, 880000, codeOK}, {440000, 0, 440000, codeOK},
+	{10000, 0, 10000, codeOK}, {10000, 1, 10001, codeOK}, {10000, -1, 0, codeRange}, {10000, 120000, 10240000, codeOK}, {10000, 120001, 0, codeRange},
+	{20000, -12000, 10000, codeOK}, {20000, -12001, 0, codeRange}, {19999, -12000, 0, codeRange}, {10240000, -120000, 10000, codeOK}, {10239999, -120000, 0, codeRange},
+	{20000000, 0, 20000000, codeOK}, {20000000, -1, 19998845, codeOK}, {20000000, 1, 0, codeRange}, {20000000, -120000, 19532, codeOK}, {20000000, -120001, 0, codeRange},
+	{10000000, 12000, 20000000, codeOK}, {10000000, 12001, 0, codeRange}, {10000001, 12000, 0, codeRange}, {19988450, 10, 20000000, codeOK}, {19988452, 10, 0, codeRange},
+	{9999, 0, 0, codeRange}, {20000001, 0, 0, codeRange},
+}
+
+// checkRaiseCase raises the frequency of a case and compares.
+func checkRaiseCase(t *testing.T, place int) {
+	t.Helper()
+	c := raiseCases[place]
+	if got, code := impl.Raise(c.f, c.tenths); got != c.want || code != c.code {
+		t.Errorf("Raise(%d, %d): got %d %d, want %d %d", c.f, c.tenths, got, code, c.want, c.code)
+	}
+}
+
+// TestP1RaiseAtTheFirstCall runs itself in a process of its own for each case, in which this case is
+// the first call of Raise; all cases are called twice after it.
+func TestP1RaiseAtTheFirstCall(t *testing.T) {
+	const variable, mark = "RAISE_FIRST", "the first call was compared"
+	if place, err := strconv.Atoi(os.Getenv(variable)); err == nil {
+		checkRaiseCase(t, place)
+		for range 2 {
+			for later := range raiseCases {
+				checkRaiseCase(t, later)
+			}
+			checkRaiseCase(t, place)
+		}
+		t.Log(mark)
+		return
+	}
+	program, err := os.Executable()
+	if err != nil {
+		t.Fatal(err)
+	}
+	for place, c := range raiseCases {
+		command := exec.Command(program, "-test.run=^TestP1RaiseAtTheFirstCall$", "-test.v")
+		command.Env = append(os.Environ(), variable+"="+strconv.Itoa(place))
+		if out, err := command.CombinedOutput(); err != nil || !strings.Contains(string(out), mark) {
+			t.Errorf("Raise(%d, %d) at the first call: %v\n%s", c.f, c.tenths, err, out)
+		}
 	}
 }
 
