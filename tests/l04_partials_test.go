@@ -686,23 +686,32 @@ func TestP5ReadSound(t *testing.T) {
 	}
 }
 
-// TestP5DamagedTextsAreNotRead: a text of a sound with one byte less or one more is that of the sound that is read, or of none.
-func TestP5DamagedTextsAreNotRead(t *testing.T) {
-	for _, whole := range soundTexts {
+// damagedTexts returns the texts with one byte less than some others, one more, or another one of some bytes.
+func damagedTexts(texts []string, bytes string) []string {
+	var damaged []string
+	for _, whole := range texts {
 		for i := range len(whole) + 1 {
-			damaged := []string{}
-			for _, more := range []string{" ", "0", "9", ".", "-", "a"} {
-				damaged = append(damaged, whole[:i]+more+whole[i:])
-			}
-			if i < len(whole) {
-				damaged = append(damaged, whole[:i]+whole[i+1:])
-			}
-			for _, s := range damaged {
-				got, ok := impl.ReadSound(s)
-				if ok && impl.SoundText(got) != s || !ok && got != (impl.Sound{}) {
-					t.Errorf("ReadSound(%q): got %v %v", s, got, ok)
+			before, after := whole[:i], whole[i:]
+			for _, b := range strings.Split(bytes, "") {
+				damaged = append(damaged, before+b+after)
+				if after != "" {
+					damaged = append(damaged, before+b+after[1:])
 				}
 			}
+			if after != "" {
+				damaged = append(damaged, before+after[1:])
+			}
+		}
+	}
+	return damaged
+}
+
+// TestP5DamagedTextsAreNotRead: a text of a sound that is damaged is that of the sound that is read, or of none.
+func TestP5DamagedTextsAreNotRead(t *testing.T) {
+	for _, s := range damagedTexts(soundTexts, " 09.-+a") {
+		got, ok := impl.ReadSound(s)
+		if ok && (impl.SoundText(got) != s || !isSound(got)) || !ok && got != (impl.Sound{}) {
+			t.Errorf("ReadSound(%q): got %v %v", s, got, ok)
 		}
 	}
 }

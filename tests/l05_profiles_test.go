@@ -731,26 +731,12 @@ func TestP6ReadProfile(t *testing.T) {
 	}
 }
 
-// TestP6DamagedTextsAreNotRead: a text with one byte less, one more or another one is that of the profile that is read, or of none.
+// TestP6DamagedTextsAreNotRead: a text that is damaged is that of the profile that is read, or of none.
 func TestP6DamagedTextsAreNotRead(t *testing.T) {
-	for _, whole := range profileTexts {
-		for i := range len(whole) + 1 {
-			damaged := []string{}
-			for _, more := range []string{" ", "0", "9", "/", "-", "+", "a"} {
-				damaged = append(damaged, whole[:i]+more+whole[i:])
-				if i < len(whole) {
-					damaged = append(damaged, whole[:i]+more+whole[i+1:])
-				}
-			}
-			if i < len(whole) {
-				damaged = append(damaged, whole[:i]+whole[i+1:])
-			}
-			for _, s := range damaged {
-				got, ok := impl.ReadProfile(s)
-				if ok && (impl.ProfileText(got) != s || !isProfile(got)) || !ok && !noProfile(got) {
-					t.Errorf("ReadProfile(%q): got %v %v", s, got, ok)
-				}
-			}
+	for _, s := range damagedTexts(profileTexts, " 09/-+a") {
+		got, ok := impl.ReadProfile(s)
+		if ok && (impl.ProfileText(got) != s || !isProfile(got)) || !ok && !noProfile(got) {
+			t.Errorf("ReadProfile(%q): got %v %v", s, got, ok)
 		}
 	}
 }
