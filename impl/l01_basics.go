@@ -108,20 +108,32 @@ func ReadList(s string) ([]int64, bool) {
 	if s == "-" {
 		return []int64{}, true
 	}
-	// One part more than a list may have is enough to see that there are too many.
-	parts := strings.SplitN(s, ",", MaxList+1)
-	if len(parts) > MaxList {
+	return readParts(s, ",", MaxList, readElement)
+}
+
+// readElement returns the number of a list with a decimal form.
+func readElement(s string) (int64, bool) {
+	n, ok := ReadDecimal(s)
+	return n, ok && within(-MaxValue, MaxValue, n)
+}
+
+// readParts returns what the parts of a text are read as; false if there are more
+// than most of them, or one cannot be read.
+func readParts[T any](s, separator string, most int, read func(string) (T, bool)) ([]T, bool) {
+	// One part more than there may be is enough to see that there are too many.
+	parts := strings.SplitN(s, separator, most+1)
+	if len(parts) > most {
 		return nil, false
 	}
-	list := make([]int64, len(parts))
+	values := make([]T, len(parts))
 	for i, part := range parts {
-		n, ok := ReadDecimal(part)
-		if !ok || !within(-MaxValue, MaxValue, n) {
+		value, ok := read(part)
+		if !ok {
 			return nil, false
 		}
-		list[i] = n
+		values[i] = value
 	}
-	return list, true
+	return values, true
 }
 
 // Crc16 returns the check value of bytes.
