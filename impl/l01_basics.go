@@ -62,6 +62,9 @@ func IsName(s string) bool {
 	return true
 }
 
+// isBudget reports whether n is the budget of a search.
+func isBudget(n int64) bool { return within(1, MaxBudget, n) }
+
 func isLetter(b byte) bool { return within('a', 'z', b) }
 
 func isDigit(b byte) bool { return within('0', '9', b) }
