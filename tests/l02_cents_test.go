@@ -629,18 +629,12 @@ func checkRaiseCase(t *testing.T, place int) {
 	}
 }
 
-// TestP1RaiseAtTheFirstCall runs itself in a process of its own for each case, in which this case is
-// the first call of Raise; all cases are called twice after it.
-func TestP1RaiseAtTheFirstCall(t *testing.T) {
-	const variable, mark = "RAISE_FIRST", "the first call was compared"
+// inOwnProcesses runs the calling test in a process of its own for each of some places, where run is called with the place.
+func inOwnProcesses(t *testing.T, places int, run func(place int)) {
+	t.Helper()
+	const variable, mark = "FIRST_CALL", "the first call was compared"
 	if place, err := strconv.Atoi(os.Getenv(variable)); err == nil {
-		checkRaiseCase(t, place)
-		for range 2 {
-			for later := range raiseCases {
-				checkRaiseCase(t, later)
-			}
-			checkRaiseCase(t, place)
-		}
+		run(place)
 		t.Log(mark)
 		return
 	}
@@ -648,13 +642,26 @@ func TestP1RaiseAtTheFirstCall(t *testing.T) {
 	if err != nil {
 		t.Fatal(err)
 	}
-	for place, c := range raiseCases {
-		command := exec.Command(program, "-test.run=^TestP1RaiseAtTheFirstCall$", "-test.v")
+	for place := range places {
+		command := exec.Command(program, "-test.run=^"+t.Name()+"$", "-test.v")
 		command.Env = append(os.Environ(), variable+"="+strconv.Itoa(place))
 		if out, err := command.CombinedOutput(); err != nil || !strings.Contains(string(out), mark) {
-			t.Errorf("Raise(%d, %d) at the first call: %v\n%s", c.f, c.tenths, err, out)
+			t.Errorf("the case %d at the first call: %v\n%s", place, err, out)
 		}
 	}
+}
+
+// TestP1RaiseAtTheFirstCall: each case is the first call of Raise in a process; all cases are called twice after it.
+func TestP1RaiseAtTheFirstCall(t *testing.T) {
+	inOwnProcesses(t, len(raiseCases), func(place int) {
+		checkRaiseCase(t, place)
+		for range 2 {
+			for later := range raiseCases {
+				checkRaiseCase(t, later)
+			}
+			checkRaiseCase(t, place)
+		}
+	})
 }
 
 // TestP1RaiseAtTheSameTime: calls at the same time do not disturb each other.
