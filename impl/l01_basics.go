@@ -65,6 +65,29 @@ func IsName(s string) bool {
 // isBudget reports whether n is the budget of a search.
 func isBudget(n int64) bool { return within(1, MaxBudget, n) }
 
+// nodeBudget is the number of nodes that a search may still visit.
+type nodeBudget int64
+
+// spend takes a node from the budget. It panics if the budget is spent.
+func (b *nodeBudget) spend() {
+	if *b == 0 {
+		panic("the budget is spent")
+	}
+	*b--
+}
+
+// withinBudget makes a search and returns what it finds; ErrFull if the budget was
+// spent before its end.
+func withinBudget[T any](search func() T) (found T, code int64) {
+	defer func() {
+		// Nothing but a spent budget makes a search panic.
+		if recover() != nil {
+			code = ErrFull
+		}
+	}()
+	return search(), OK
+}
+
 func isLetter(b byte) bool { return within('a', 'z', b) }
 
 func isDigit(b byte) bool { return within('0', '9', b) }
