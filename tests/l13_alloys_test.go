@@ -436,6 +436,20 @@ func TestP14ValidAlloy(t *testing.T) {
 	}
 }
 
+// checkNamePairs holds a function that reports whether two texts are names in increasing order against what it must report.
+func checkNamePairs(t *testing.T, what string, valid func(before, after string) bool) {
+	t.Helper()
+	names := append([]string{"a", "a0", "a9", "aa", "ab", "b", "b0", "abcdefghij", "z"}, noNames...)
+	for _, before := range names {
+		for _, after := range names {
+			want := impl.IsName(before) && impl.IsName(after) && strings.Compare(before, after) < 0
+			if got := valid(before, after); got != want {
+				t.Errorf("%s of %q and %q: got %v", what, before, after, got)
+			}
+		}
+	}
+}
+
 func TestP14ValidIngots(t *testing.T) {
 	for _, list := range goodIngots() {
 		if !impl.ValidIngots(list) || !areIngots(list) {
@@ -457,15 +471,9 @@ func TestP14ValidIngots(t *testing.T) {
 			t.Errorf("ValidIngots of a mass of %d: got %v", mass, got)
 		}
 	}
-	ids := append([]string{"a", "a0", "a9", "aa", "ab", "b", "b0", "abcdefghij", "z"}, noNames...)
-	for _, before := range ids {
-		for _, after := range ids {
-			got, want := impl.ValidIngots([]impl.Ingot{ingotWith(before, 1, 0, 0), ingotWith(after, 1, 0, 0)}), impl.IsName(before) && impl.IsName(after) && strings.Compare(before, after) < 0
-			if got != want {
-				t.Errorf("ValidIngots of %q and %q: got %v", before, after, got)
-			}
-		}
-	}
+	checkNamePairs(t, "ValidIngots", func(before, after string) bool {
+		return impl.ValidIngots([]impl.Ingot{ingotWith(before, 1, 0, 0), ingotWith(after, 1, 0, 0)})
+	})
 }
 
 func TestP14ValidDemand(t *testing.T) {
