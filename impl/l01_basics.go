@@ -62,6 +62,37 @@ func IsName(s string) bool {
 	return true
 }
 
+// named is a value with a name, by which lists of such values are in order.
+type named interface {
+	valid() bool
+	name() string
+}
+
+// areNamed reports whether a list has at most a number of values, all of them valid
+// and with strictly increasing names.
+func areNamed[T named](list []T, most int) bool {
+	if len(list) > most {
+		return false
+	}
+	for i, x := range list {
+		if !x.valid() || i > 0 && x.name() <= list[i-1].name() {
+			return false
+		}
+	}
+	return true
+}
+
+// indicesWhere returns the indices of the elements for which a function reports true.
+func indicesWhere[T any](list []T, is func(T) bool) []int64 {
+	var indices []int64
+	for i, element := range list {
+		if is(element) {
+			indices = append(indices, int64(i))
+		}
+	}
+	return indices
+}
+
 // isBudget reports whether n is the budget of a search.
 func isBudget(n int64) bool { return within(1, MaxBudget, n) }
 
@@ -160,6 +191,15 @@ func readParts[T any](s, separator string, most int, read func(string) (T, bool)
 		values[i] = value
 	}
 	return values, true
+}
+
+// readNamed returns the name with which a text begins and the numbers of the list
+// behind it; false if there are not as many as count. The name need not be one.
+func readNamed(s string, count int) (string, []int64, bool) {
+	// A blank too many is left in the list, which is none then.
+	name, listText, _ := strings.Cut(s, " ")
+	numbers, ok := ReadList(listText)
+	return name, numbers, ok && len(numbers) == count
 }
 
 // Crc16 returns the check value of bytes.
